@@ -1,0 +1,1 @@
+"""Selfprint: programs that print themselves when they are only called."""

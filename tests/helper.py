@@ -1,0 +1,279 @@
+"""What the tests share: checks of calls, odd values, and made-up kinds, terms and programs."""
+
+import copy
+import unittest
+
+from selfprint.nodes import BINDS
+
+A, B, C = ("letter", 0), ("letter", 1), ("letter", 2)
+COUNT = ("count",)
+
+
+def fun(left, right):
+    return ("fun", left, right)
+
+
+def pair(left, right):
+    return ("pair", left, right)
+
+
+def sum_of(left, right):
+    return ("sum", left, right)
+
+
+def wide(signs):
+    """A kind of so many signs (an odd number), as flat as it can be."""
+    if signs == 1:
+        return A
+    inner = (signs - 1) // 2
+    left = inner if inner % 2 else inner + 1
+    return pair(wide(left), wide(signs - 1 - left))
+
+
+def deep(many):
+    """A kind so many deep."""
+    kind = A
+    for _ in range(many - 1):
+        kind = fun(A, kind)
+    return kind
+
+
+def too_wide_by_right(signs):
+    """A row of pairs, of so many signs, deep as well."""
+    kind = A
+    while signs > 1:
+        kind, signs = pair(A, kind), signs - 2
+    return kind
+
+
+def nexts(nodes, end=("told", 0)):
+    """A term of so many nodes."""
+    return [("next",)] * (nodes - 1) + [end]
+
+
+# Values that are no kind, term, program, text, list of names or rule.
+ODD = [
+    None, True, False, 0, 1, -1, 7, 10 ** 30, "", "x", "count", "letter", b"", b"count", (), [], {}, set(),
+    frozenset(), {"a": 1}, [None], (None,), [()], ((),), [[]], ([],), [0], (0,), ["count"], ["told", 1],
+    [("told",)], [("told", 1, 1)], [("told", True)], [("told", "1")], [("told", None)], [("told", -1)],
+    [("told", [])], [["told", 1]], [("name", True)], [("name", -1)], [("name", 300)], [("told", 1000001)],
+    [("fun",), ("told", 1)], [("fun", A)], [("fun", ["count"]), ("told", 1)], [("fun", None), ("told", 1)],
+    [("next", 1), ("told", 1)], [("next",)], [("told", 1), ("told", 1)], [("call",), ("told", 1)],
+    [(["told"], 1)], [({}, 1)], [(1, 1)], [((), 1)], [("Told", 1)], [(b"told", 1)], [("left", "a"), ("told", 1)],
+    ("letter",), ("letter", 6), ("letter", -1), ("letter", True), ("letter", False), ("letter", "a"),
+    ("letter", None), ("letter", 0, 0), ["letter", 0], ("count", 1), ("counts",), (COUNT,), ("pair", A),
+    ("pair", A, A, A), ("sum", A), ("fun", A), ("fun", A, None), ("fun", A, ["letter", 0]), ("fun", [], []),
+    ("fun", A, ("letter", True)), (["fun"], A, A), ({}, A, A), (b"fun", A, A), object(), len, int,
+]
+
+
+def same(value, other):
+    """Whether both are equal and of the same kinds, also within."""
+    if type(value) is not type(other):
+        return False
+    if isinstance(value, (list, tuple)):
+        return len(value) == len(other) and all(same(one, two) for one, two in zip(value, other))
+    return value == other
+
+
+def inner_lists(value):
+    """All lists in a value, itself counted in."""
+    if not isinstance(value, (list, tuple)):
+        return []
+    found = [value] if isinstance(value, list) else []
+    for inner in value:
+        found.extend(inner_lists(inner))
+    return found
+
+
+class Checks(unittest.TestCase):
+    """Checks of calls, by position and by name at once."""
+
+    def each_call(self, function, told):
+        yield lambda: function(*told.values())
+        yield lambda: function(**told)
+
+    def check(self, wanted, function, **told):
+        """The call returns just this, each time, anew, and leaves what it is passed as it was."""
+        before = {name: copy.deepcopy(value) for name, value in told.items() if inner_lists(value)}
+        for call in self.each_call(function, told):
+            found = call()
+            self.assertTrue(same(found, wanted), f"{function.__name__}{told}: {found!r}, wanted {wanted!r}")
+            for name, value in before.items():
+                self.assertTrue(same(told[name], value), "an argument was changed")
+            passed = [id(row) for value in told.values() for row in inner_lists(value)]
+            self.assertFalse([row for row in inner_lists(found) if id(row) in passed], "a list is not new")
+            for row in inner_lists(found):
+                row.append("changed")
+        self.assertTrue(same(function(**told), wanted), "a returned list was not new")
+
+    def check_error(self, wanted, attributes, function, **told):
+        """The call raises just this error, with just these attributes."""
+        before = {name: copy.deepcopy(value) for name, value in told.items() if inner_lists(value)}
+        for call in self.each_call(function, told):
+            with self.assertRaises(wanted, msg=f"{function.__name__}{told}") as caught:
+                call()
+            self.assertIs(type(caught.exception), wanted)
+            self.assertEqual(set(vars(caught.exception)), set(attributes))
+            for name, value in attributes.items():
+                found = getattr(caught.exception, name)
+                self.assertTrue(same(found, value), f"{function.__name__}{told}: {name} is {found!r}, wanted {value!r}")
+        for name, value in before.items():
+            self.assertTrue(same(told[name], value), "an argument was changed")
+
+    def check_invalid(self, wanted, function, name, values, **told):
+        """Each of the values in the place of this argument raises the error with the value."""
+        for value in values:
+            self.check_error(wanted, {"value": value}, function, **{**told, name: value})
+
+
+# Terms as trees, and what the document says of them, told once more in the plainest way.
+
+
+def tree_of(term):
+    """The tree (node, children) of a term."""
+    tree, rest = cut_tree(list(term))
+    assert rest == []
+    return tree
+
+
+def cut_tree(nodes):
+    node, rest = nodes[0], nodes[1:]
+    inner = []
+    for _ in BINDS[node[0]]:
+        child, rest = cut_tree(rest)
+        inner.append(child)
+    return (node, inner), rest
+
+
+def term_of(tree):
+    """The term of a tree."""
+    node, inner = tree
+    nodes = [node]
+    for child in inner:
+        nodes.extend(term_of(child))
+    return nodes
+
+
+def tree_with_names(tree, around, change):
+    """The tree with each open name in the place of which change(number, around) puts a tree."""
+    node, inner = tree
+    if node[0] == "name" and node[1] >= around:
+        return change(node[1] - around, around)
+    more = BINDS[node[0]]
+    return node, [tree_with_names(child, around + bound, change) for child, bound in zip(inner, more)]
+
+
+def plainly_lifted(term, many):
+    return term_of(tree_with_names(tree_of(term), 0, lambda number, around: (("name", number + around + many), [])))
+
+
+def plainly_put_in(term, other):
+    def change(number, around):
+        if number == 0:
+            return tree_of(plainly_lifted(other, around))
+        return ("name", number - 1 + around), []
+
+    return term_of(tree_with_names(tree_of(term), 0, change))
+
+
+def random_kind(rng, most):
+    """A kind at most so many deep."""
+    word = rng.choice(("letter", "letter", "count", "pair", "sum", "fun", "fun")) if most > 1 else "letter"
+    if word == "letter":
+        return ("letter", rng.randrange(3))
+    if word == "count":
+        return COUNT
+    return (word, random_kind(rng, most - 1), random_kind(rng, most - 1))
+
+
+def random_term(rng, most, names=3):
+    """A term, whether it fits or not, at most so many deep, with names up to so many further out than binders."""
+    return random_part(rng, most, names)
+
+
+def random_part(rng, most, names):
+    words = list(BINDS) if most > 1 else ["name", "told"]
+    word = rng.choice(words)
+    if word == "name":
+        return [("name", rng.randrange(names))]
+    if word == "told":
+        return [("told", rng.choice((0, 1, 7, 1000000)))]
+    with_kind = word in ("fun", "left", "right", "turns")
+    term = [(word, random_kind(rng, 3)) if with_kind else (word,)]
+    for bound in BINDS[word]:
+        term.extend(random_part(rng, most - 1, names + bound))
+    return term
+
+
+# In this row each kind of letters 0 to 2 has a term, however small.
+ROW = [A, fun(A, B), fun(pair(A, B), C), pair(fun(A, A), B), fun(fun(A, B), A)]
+
+
+def random_fitting(rng, kind, row, most):
+    """A term of the kind, with names of the kinds in the row, which begins anywhere and ends with ROW."""
+    if most > 0 and rng.randrange(3):
+        found = random_detour(rng, kind, row, most - 1)
+        if found is not None:
+            return found
+    if kind[0] == "letter" or (kind in row and rng.randrange(2)):
+        return random_letter(rng, kind, row)
+    if kind[0] == "count":
+        return [("told", rng.choice((0, 1, 2, 3, 999999, 1000000)))]
+    if kind[0] == "fun":
+        return [("fun", kind[1])] + random_fitting(rng, kind[2], [kind[1]] + row, most - 1)
+    if kind[0] == "pair":
+        return [("both",)] + random_fitting(rng, kind[1], row, most - 1) + random_fitting(rng, kind[2], row, most - 1)
+    if rng.randrange(2):
+        return [("left", kind[2])] + random_fitting(rng, kind[1], row, most - 1)
+    return [("right", kind[1])] + random_fitting(rng, kind[2], row, most - 1)
+
+
+def random_letter(rng, kind, row):
+    """A name of the kind, or a small term of the letter, by what ROW has."""
+    places = [place for place, known in enumerate(row) if known == kind]
+    if places:
+        return [("name", rng.choice(places))]
+    first = len(row) - len(ROW)
+    to_b = [("call",), ("name", first + 1), ("name", first)]
+    if kind == B:
+        return to_b
+    return [("call",), ("name", first + 2), ("both",), ("name", first)] + to_b
+
+
+def random_detour(rng, kind, row, most):
+    """A term of the kind that is no fun, both, left, right and told."""
+    word = rng.choice(("call", "first", "second", "which", "turns", "next", "let"))
+    other, third = random_kind(rng, 2), random_kind(rng, 2)
+    if word == "next":
+        return [("next",)] + random_fitting(rng, kind, row, most) if kind == COUNT else None
+    if word == "call":
+        return [("call",)] + random_fitting(rng, fun(other, kind), row, most) + random_fitting(rng, other, row, most)
+    if word == "first":
+        return [("first",)] + random_fitting(rng, pair(kind, other), row, most)
+    if word == "second":
+        return [("second",)] + random_fitting(rng, pair(other, kind), row, most)
+    if word == "let":
+        return [("let",)] + random_fitting(rng, other, row, most) + random_fitting(rng, kind, [other] + row, most)
+    if word == "turns":
+        count = [("told", rng.randrange(4))]
+        step = random_fitting(rng, kind, [kind] + row, most)
+        return [("turns", kind)] + count + step + random_fitting(rng, kind, row, most)
+    arms = random_fitting(rng, kind, [other] + row, most) + random_fitting(rng, kind, [third] + row, most)
+    return [("which",)] + random_fitting(rng, sum_of(other, third), row, most) + arms
+
+
+def random_program(rng, most):
+    """A program: a random fitting term with a fun for each name of ROW around it."""
+    term = random_fitting(rng, random_kind(rng, 3), list(ROW), most)
+    return [("fun", kind) for kind in ROW[::-1]] + term
+
+
+def random_programs(rng, many, most, nodes):
+    """So many programs of at most so many nodes."""
+    found = []
+    while len(found) < many:
+        program = random_program(rng, most)
+        if len(program) <= nodes:
+            found.append(program)
+    return found
