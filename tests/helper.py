@@ -1,6 +1,7 @@
 """What the tests share: checks of calls, odd values, and made-up kinds, terms and programs."""
 
 import copy
+import re
 import unittest
 
 from selfprint.nodes import BINDS
@@ -59,7 +60,7 @@ ODD = [
     [("told", [])], [["told", 1]], [("name", True)], [("name", -1)], [("name", 300)], [("told", 1000001)],
     [("fun",), ("told", 1)], [("fun", A)], [("fun", ["count"]), ("told", 1)], [("fun", None), ("told", 1)],
     [("next", 1), ("told", 1)], [("next",)], [("told", 1), ("told", 1)], [("call",), ("told", 1)],
-    [(["told"], 1)], [({}, 1)], [(1, 1)], [((), 1)], [("Told", 1)], [(b"told", 1)], [("left", "a"), ("told", 1)],
+    [(["told"], 1)], [({}, 1)], [([],)], [({},)], [(1, 1)], [((), 1)], [("Told", 1)], [(b"told", 1)], [("left", "a"), ("told", 1)],
     ("letter",), ("letter", 6), ("letter", -1), ("letter", True), ("letter", False), ("letter", "a"),
     ("letter", None), ("letter", 0, 0), ["letter", 0], ("count", 1), ("counts",), (COUNT,), ("pair", A),
     ("pair", A, A, A), ("sum", A), ("fun", A), ("fun", A, None), ("fun", A, ["letter", 0]), ("fun", [], []),
@@ -213,9 +214,7 @@ ROW = [A, fun(A, B), fun(pair(A, B), C), pair(fun(A, A), B), fun(fun(A, B), A)]
 def random_fitting(rng, kind, row, most):
     """A term of the kind, with names of the kinds in the row, which begins anywhere and ends with ROW."""
     if most > 0 and rng.randrange(3):
-        found = random_detour(rng, kind, row, most - 1)
-        if found is not None:
-            return found
+        return random_detour(rng, kind, row, most - 1)
     if kind[0] == "letter" or (kind in row and rng.randrange(2)):
         return random_letter(rng, kind, row)
     if kind[0] == "count":
@@ -243,10 +242,10 @@ def random_letter(rng, kind, row):
 
 def random_detour(rng, kind, row, most):
     """A term of the kind that is no fun, both, left, right and told."""
-    word = rng.choice(("call", "first", "second", "which", "turns", "next", "let"))
+    word = rng.choice(["call", "first", "second", "which", "turns", "let"] + ["next"] * (4 if kind == COUNT else 0))
     other, third = random_kind(rng, 2), random_kind(rng, 2)
     if word == "next":
-        return [("next",)] + random_fitting(rng, kind, row, most) if kind == COUNT else None
+        return [("next",)] + random_fitting(rng, kind, row, most)
     if word == "call":
         return [("call",)] + random_fitting(rng, fun(other, kind), row, most) + random_fitting(rng, other, row, most)
     if word == "first":
@@ -276,4 +275,59 @@ def random_programs(rng, many, most, nodes):
         program = random_program(rng, most)
         if len(program) <= nodes:
             found.append(program)
+    return found
+
+
+# [22] and [23] told once more, as they stand there, and a slow judge of rows of pieces by them.
+
+OWN_WORDS = "fun let in which turns first second next left right count".split()
+GRAMMAR = {
+    "KIND": ["LETTER", "count", "( KIND )", "KIND * KIND", "KIND + KIND", "KIND > KIND"],
+    "ATOM": ["NAME", "COUNT", "( TERM )", "( TERM , TERM )"],
+    "ITEM": ["ATOM", "first ATOM", "second ATOM", "next ATOM", "left [ KIND ] ATOM", "right [ KIND ] ATOM"],
+    "CALLS": ["ITEM", "CALLS ATOM"],
+    "TERM": ["fun NAME : KIND . TERM", "let NAME = TERM in TERM", "which ATOM ( NAME . TERM ) ( NAME . TERM )",
+             "turns ATOM ( NAME : KIND . TERM ) ATOM", "CALLS"],
+}
+GRAMMAR = {head: [told.split() for told in rows] for head, rows in GRAMMAR.items()}
+
+
+def is_met(wanted, piece):
+    """Whether a piece is what a row of the grammar wants there."""
+    if wanted == "LETTER":
+        return piece in list("abcdef")
+    if wanted == "COUNT":
+        return re.fullmatch("[0-9]+", piece) is not None
+    if wanted == "NAME":
+        return re.fullmatch("[a-z][a-z0-9]*", piece) is not None and piece not in OWN_WORDS
+    return piece == wanted
+
+
+def first_fault(head, pieces):
+    """The place of the first piece with which nothing right can begin so; their number if more are wanted; else None."""
+    rows = [grown([(head, tuple(rule), 0, 0) for rule in GRAMMAR[head]], [])]
+    for place, piece in enumerate(pieces):
+        taken = [(name, rule, at + 1, begin) for name, rule, at, begin in rows[-1]
+                 if at < len(rule) and rule[at] not in GRAMMAR and is_met(rule[at], piece)]
+        if not taken:
+            return place
+        rows.append(grown(taken, rows))
+    is_whole = any(name == head and at == len(rule) and begin == 0 for name, rule, at, begin in rows[-1])
+    return None if is_whole else len(pieces)
+
+
+def grown(items, rows):
+    """All items that follow from these at one place, by Earley's way; none of the rules is empty."""
+    found, waiting = set(), list(items)
+    while waiting:
+        item = waiting.pop()
+        if item in found:
+            continue
+        found.add(item)
+        name, rule, at, begin = item
+        if at == len(rule):
+            waiting.extend((other, told, spot + 1, start) for other, told, spot, start in rows[begin]
+                           if spot < len(told) and told[spot] == name)
+        elif rule[at] in GRAMMAR:
+            waiting.extend((rule[at], tuple(told), 0, len(rows)) for told in GRAMMAR[rule[at]])
     return found

@@ -10,6 +10,12 @@ INTERFACE = {
         put_kind(kind,letter,other)""",
     "terms": """is_term(value) children(term,position) part(term,position) size_of(term) open_names(term)
         lifted(term,many) put_in(term,other) letters_put(term,letter,kind)""",
+    "checked": """kind_of(names,term) fits(names,term) kinds_at(names,term) is_program(value)
+        program_kind(program)""",
+    "signs": "pieces(text)",
+    "reader": "read_kind(text) read_term(text,outside) read_program(text)",
+    "printer": "write_kind(kind) write_term(term,outside) written(program)",
+    "steps": "first_steps(program) is_plain(program) stepped(program,position,rule)",
 }
 
 
