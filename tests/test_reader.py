@@ -5,6 +5,7 @@ import unittest
 
 from helper import A, B, C, COUNT, ODD, Checks, deep, first_fault, fun, pair, random_kind, random_programs, sum_of, wide
 from selfprint.errors import BadKind, BadText, InvalidOutside, InvalidText, TooMany, UnknownName
+from selfprint.kinds import put_kind
 from selfprint.printer import write_kind, written
 from selfprint.reader import read_kind, read_program, read_term
 from selfprint.signs import pieces
@@ -73,6 +74,14 @@ class Kinds(Checks):
         self.check_error(TooMany, many("depth", 12), read_kind, text="a * " * 12 + "a")
         self.check_error(TooMany, many("depth", 12), read_kind, text="(" * 40 + "a + " * 12 + "a" + ")" * 40)
         self.check_error(TooMany, many("signs", 60), read_kind, text="a>" * 1999 + "a")
+
+    def test_counts_are_one_sign_and_one_deep(self):
+        row = write_kind(wide(59)).replace("a", "count")
+        self.check(put_kind(wide(59), 0, COUNT), read_kind, text=row)
+        self.check_error(TooMany, many("signs", 60), read_kind, text=f"({row}) * count")
+        self.check(put_kind(deep(12), 0, COUNT), read_kind, text="count > " * 11 + "count")
+        self.check_error(TooMany, many("depth", 12), read_kind, text="count > " * 12 + "count")
+        self.check_error(TooMany, many("depth", 12), read_kind, text="count * " * 12 + "count")
 
     def test_the_sequence_of_what_is_too_great(self):
         self.check_error(TooMany, many("brackets", 40), read_kind, text="(" * 41 + "a" + " > a)" * 41)
@@ -288,6 +297,7 @@ class TooGreat(Checks):
         self.much("brackets", 40, "(" * 40 + "left[a] 1" + ")" * 40)
         self.much("brackets", 40, "(" * 39 + "left[(a)] 1" + ")" * 39)
         self.much("brackets", 40, "fun x : " + "(" * 41 + "a" + ")" * 41 + ". x")
+        self.assertEqual(len(read_term("1" + " (left[a] 1)" * 60, [])), 181)
         self.assertEqual(len(read_term("(1) (" * 3 + "1" + ")" * 3 + " ((1))" * 30, [])), 67)
 
     def test_signs_and_depth(self):

@@ -104,6 +104,8 @@ class EachRule(Checks):
         self.no_step("fun p : a * b. second p", 2, "long")
         self.no_step("fun f : a > a > a. fun x : a. f x x", 3, "long")
         self.no_step("fun p : (a * b) * c. second (first p)", 2, "long")
+        self.no_step("first (let x = 1 in (x, x))", 1, "long")
+        self.no_step("(let x = 1 in fun y : count. x) 2", 1, "long")
         self.no_step("fun f : a > b. fun x : a. f x", 0, "long")
         self.no_step("(1, 2)", 0, "long")
         self.no_step("next 1", 0, "long")
