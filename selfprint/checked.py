@@ -95,6 +95,12 @@ KINDS_OF_WORDS = {
 }
 
 
+def kind_so(node, row, below):
+    """The node's kind, with names of the kinds in the row, and children of those below; None if it does not fit."""
+    action = KINDS_OF_WORDS[node[0]]
+    return action(node, row, below)
+
+
 def bound_kind(node, below):
     """The kind that a node binds in its next child; None if it cannot tell one."""
     if node[0] == "let":
@@ -127,8 +133,7 @@ def found_kinds(names, term):
             waiting.append((entered, inner_row, []))
             entered += 1
             continue
-        action = KINDS_OF_WORDS[node[0]]
-        kinds[position] = action(node, row, below)
+        kinds[position] = kind_so(node, row, below)
         if kinds[position] is None:
             raise NoKind(position)
         waiting.pop()

@@ -1,7 +1,7 @@
 """Kinds: what they are, which are shown, met and data, and letters put in them."""
 
 from selfprint.basics import is_count
-from selfprint.errors import InvalidKind, InvalidLetter, TooMany
+from selfprint.errors import InvalidKind, InvalidLetter, NotData, NotShown, TooMany
 
 MOST_SIGNS = 60
 MOST_DEEP = 12
@@ -95,6 +95,18 @@ def seen_as_data(kind):
     if kind[0] in ("letter", "fun"):
         return False
     return all([seen_as_data(inner) for inner in inner_kinds(kind)])
+
+
+def need_shown(kind):
+    """NotShown unless what is surely a kind is shown."""
+    if not seen_as_shown(kind):
+        raise NotShown()
+
+
+def need_data(kind):
+    """NotData unless what is surely a kind is a data kind."""
+    if not seen_as_data(kind):
+        raise NotData()
 
 
 def signs_of(kind):

@@ -80,7 +80,17 @@ def ends(term):
 
 def child_places(term, position):
     """The list of the positions of a node's children."""
+    return places_so(term, position, ends(term))
+
+
+def all_child_places(term):
+    """For each node the list of the positions of its children."""
     behind = ends(term)
+    return [places_so(term, position, behind) for position in range(len(term))]
+
+
+def places_so(term, position, behind):
+    """As child_places, with the ends of the term's nodes."""
     found = []
     place = position + 1
     for _ in binds(term[position][0]):

@@ -77,7 +77,12 @@ def stepped(program, position, rule):
     need_rule(rule)
     if (position, rule) not in steps_from(program):
         raise NoStep()
-    made = step_made(list(program), position, rule)
+    return small_step(list(program), position, rule)
+
+
+def small_step(program, position, rule):
+    """What a first step makes of the list of a program's nodes: TooMany if it has more nodes than a program."""
+    made = step_made(program, position, rule)
     if len(made) > MOST_NODES:
         raise TooMany("nodes", MOST_NODES)
     return made

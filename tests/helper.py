@@ -331,3 +331,215 @@ def grown(items, rows):
         elif rule[at] in GRAMMAR:
             waiting.extend((rule[at], tuple(told), 0, len(rows)) for told in GRAMMAR[rule[at]])
     return found
+
+
+# [41] to [43], [52] to [54] and [64] told once more, by functions that call themselves, for small programs.
+# A function's worth is a tuple (whether it is a made one, a Python function). A new name is met as what it
+# comes to at once: a Python function, a pair, or, of a letter, a list of its number, its calls and its parts.
+
+
+def name_worth(kind, row):
+    """What a new name, with these calls and parts, is met as."""
+    if kind[0] == "fun":
+        return False, lambda worth: name_worth(kind[2], row + [("call", kind[1], worth)])
+    if kind[0] == "pair":
+        return "both", name_worth(kind[1], row + [("first",)]), name_worth(kind[2], row + [("second",)])
+    return row
+
+
+def plainly_read(kind, worth, around):
+    """The tree that the reader of a kind writes of a worth."""
+    if kind[0] == "fun":
+        node = ("fun", kind[1])
+        return node, [plainly_read(kind[2], worth[1](name_worth(kind[1], [around])), around + 1)]
+    if kind[0] == "pair":
+        return ("both",), [plainly_read(kind[1], worth[1], around), plainly_read(kind[2], worth[2], around)]
+    if kind[0] == "sum":
+        side = ("left", "right").index(worth[0])
+        return (worth[0], kind[2 - side]), [plainly_read(kind[1 + side], worth[1], around)]
+    if kind[0] == "count":
+        return ("told", worth), []
+    tree = ("name", around - 1 - worth[0]), []
+    for told in worth[1:]:
+        tree = told[:1], [tree] + [plainly_read(*inner, around) for inner in [told[1:]] if inner]
+    return tree
+
+
+def positions_of(tree, position=0):
+    """The tree with the position of its node at each: (position, node, inner)."""
+    node, inner = tree
+    found, place = [], position + 1
+    for child in inner:
+        found.append(positions_of(child, place))
+        place += len(term_of(child))
+    return position, node, found
+
+
+def plainly_run(tree, row, calls):
+    """The worth of a tree with positions in a row; calls is the list to which the positions of its calls are put."""
+    position, node, inner = tree
+    word = node[0]
+
+    def body(child, worth, around=None):
+        calls.append(position)
+        return plainly_run(inner[child], [worth] + (row if around is None else around), calls)
+
+    if word == "name":
+        return row[node[1]]
+    if word == "told":
+        return node[1]
+    if word == "fun":
+        return True, lambda worth: body(0, worth)
+    if word == "let":
+        return body(1, plainly_run(inner[0], row, calls))
+    if word == "which":
+        side, on_it = plainly_run(inner[0], row, calls)
+        return body(("left", "right").index(side) + 1, on_it)
+    if word == "turns":
+        many, worth = plainly_run(inner[0], row, calls), plainly_run(inner[2], row, calls)
+        for _ in range(many):
+            worth = body(1, worth)
+        return worth
+    below = [plainly_run(child, row, calls) for child in inner]
+    return plainly_put(node, below)
+
+
+def plainly_put(node, below):
+    """The worth of a node or an order whose children's worths are these."""
+    word = node[0]
+    if word == "call":
+        return below[0][1](below[1])
+    if word == "both":
+        return ("both", *below)
+    if word in ("first", "second"):
+        return below[0][("first", "second").index(word) + 1]
+    if word in ("left", "right"):
+        return (word, *below)
+    assert word == "next"
+    return below[0] + (below[0] < 1000000)
+
+
+def plain_worth(program):
+    """The worth of a program, and its call row."""
+    calls = []
+    return plainly_run(positions_of(tree_of(program)), [], calls), calls
+
+
+def plain_print(kind, program):
+    """The print of a program of this kind, and its calls."""
+    calls = []
+    worth = plainly_run(positions_of(tree_of(program)), [], calls)
+    return term_of(plainly_read(kind, worth, 0)), calls
+
+
+def plainly_coded(code, entry, slots, given, calls):
+    """The worth of an entry; calls is the list to which a None is put at each call."""
+    stack = []
+
+    def held(source):
+        return slots[source[1]] if source[0] == "slot" else given
+
+    def made(order):
+        worths = [held(source) for source in order[2]]
+
+        def begun(worth):
+            calls.append(None)
+            return plainly_coded(code, order[1], worths, worth, calls)
+
+        return True, begun
+
+    for order in code[entry][3]:
+        if order[0] in ("slot", "given"):
+            stack.append(held(order))
+        elif order[0] == "told":
+            stack.append(order[1])
+        elif order[0] == "make":
+            stack.append(made(order))
+        elif order[0] == "which":
+            (side, on_it), left, right = stack[-3:]
+            stack[-3:] = [(left if side == "left" else right)[1](on_it)]
+        elif order[0] == "turns":
+            many, worth, (is_made, function) = stack[-3:]
+            for _ in range(many):
+                calls.extend([] if is_made else [None])
+                worth = function(worth)
+            stack[-3:] = [worth]
+        else:
+            many = 2 if order[0] in ("call", "both") else 1
+            stack[-many:] = [plainly_put(order, stack[-many:])]
+    assert len(stack) == 1
+    return stack[0]
+
+
+def plain_decompiled(code):
+    """What a code prints, and how many calls this makes."""
+    calls = []
+    worth = plainly_coded(code, 0, [], None, calls)
+    return term_of(plainly_read(code[0][2], worth, 0)), len(calls)
+
+
+# Programs of all shown kinds, and programs with just so many calls.
+
+
+def is_plainly_shown(kind):
+    """[6] told once more."""
+    if kind[0] == "fun":
+        return is_plainly_met(kind[1]) and is_plainly_shown(kind[2])
+    return all(is_plainly_shown(inner) for inner in kind[1:] if isinstance(inner, tuple))
+
+
+def is_plainly_met(kind):
+    if kind[0] == "fun":
+        return is_plainly_shown(kind[1]) and is_plainly_met(kind[2])
+    return kind[0] in ("letter", "pair") and all(is_plainly_met(inner) for inner in kind[1:] if isinstance(inner, tuple))
+
+
+def shown_programs(rng, many, most, nodes):
+    """As random_programs, of shown kinds: all names of ROW are of met kinds."""
+    found = []
+    while len(found) < many:
+        kind = random_kind(rng, 3)
+        if is_plainly_shown(kind):
+            program = [("fun", bound) for bound in ROW[::-1]] + random_fitting(rng, kind, list(ROW), most)
+            if len(program) <= nodes:
+                found.append(program)
+    return found
+
+
+def turned(calls, start=("told", 0)):
+    """A program of count with just so many calls: next, turned so often."""
+    return [("turns", COUNT), ("told", calls), ("next",), ("name", 0), start]
+
+
+def random_data_kind(rng, most):
+    word = rng.choice(("count", "pair", "sum")) if most > 1 else "count"
+    return COUNT if word == "count" else (word, random_data_kind(rng, most - 1), random_data_kind(rng, most - 1))
+
+
+# Arguments for the names of ROW, with counts in the place of all letters.
+ROW_TOLD = [
+    [("told", 2)],
+    [("fun", COUNT), ("next",), ("name", 0)],
+    [("fun", pair(COUNT, COUNT)), ("first",), ("name", 0)],
+    [("both",), ("fun", COUNT), ("next",), ("next",), ("name", 0), ("told", 4)],
+    [("fun", fun(COUNT, COUNT)), ("call",), ("name", 0), ("told", 1)],
+]
+
+
+def with_counts(value):
+    """A kind, or a node, with counts in the place of all letters."""
+    if not isinstance(value, tuple):
+        return value
+    return COUNT if value[0] == "letter" else tuple(with_counts(inner) for inner in value)
+
+
+def random_data_programs(rng, many, most, nodes):
+    """So many programs of data kinds, of at most so many nodes: random ones, called at an argument for each name of ROW."""
+    found = []
+    while len(found) < many:
+        term = random_fitting(rng, random_data_kind(rng, 3), list(ROW), most)
+        program = [("call",)] * len(ROW) + [("fun", kind) for kind in ROW[::-1]] + term
+        program = [with_counts(node) for node in program] + [node for told in ROW_TOLD[::-1] for node in told]
+        if len(program) <= nodes:
+            found.append(program)
+    return found

@@ -46,6 +46,61 @@ EXAMPLES = r'''
 >>> same, twice = [("fun", aa), ("call",), ("fun", aa), ("name", 0), ("name", 0)], [("fun", a), ("turns", a), ("told", 2), ("name", 0), ("name", 0)]
 >>> [first_steps(same), stepped(same, 1, "call"), stepped(twice, 1, "turns"), stepped([("next",), ("told", 4)], 0, "next"), is_plain([("told", 5)])]
 [[(1, 'call'), (1, 'long'), (3, 'long'), (4, 'long')], [('fun', ('fun', ('letter', 0), ('letter', 0))), ('name', 0)], [('fun', ('letter', 0)), ('turns', ('letter', 0)), ('told', 1), ('name', 0), ('name', 0)], [('told', 5)], True]
+
+>>> from selfprint.forms import are_alike, form, is_steps, steps_of
+>>> [form(same) == [("fun", aa), ("fun", a), ("call",), ("name", 1), ("name", 0)], form(twice), is_steps(twice, form(twice), [(1, "turns"), (1, "turns"), (1, "turns")])]
+[True, [('fun', ('letter', 0)), ('name', 0)], True]
+>>> [is_steps(same, form(same), steps_of(same)), is_steps(same, same, []), is_steps(same, form(same), [(1, "long")]), are_alike(same, form(same)), are_alike(same, twice)]
+[True, True, False, True, False]
+
+>>> from selfprint.worths import data_term
+>>> number = ("count",)
+>>> data_term(("pair", number, ("sum", number, number)), ("both", 4, ("right", 0)))
+[('both',), ('told', 4), ('right', ('count',)), ('told', 0)]
+
+>>> from selfprint.running import call_count, call_row, value_of
+>>> twice = [("call",), ("fun", number), ("both",), ("name", 0), ("next",), ("name", 0), ("told", 4)]
+>>> round_trip = [("turns", number), ("told", 3), ("let",), ("next",), ("name", 0), ("next",), ("name", 0), ("told", 1)]
+>>> [value_of(twice), call_row(twice), value_of(round_trip), call_row(round_trip), call_count([("fun", number), ("name", 0)])]
+[('both', 4, 5), [1], 7, [0, 2, 0, 2, 0, 2], 0]
+
+>>> from selfprint.machine import Run
+>>> run = Run(round_trip)
+>>> [run.calls, run.go(0), run.go(4), run.calls, run.is_done, run.go(2), run.calls, run.value()]
+[0, False, False, 4, False, True, 6, 7]
+
+>>> from selfprint.printing import is_long, is_printed, long_count, long_programs, print_calls, printed
+>>> a = ("letter", 0)
+>>> aa, pair = ("fun", a, a), ("pair", a, a)
+>>> [printed([("fun", aa), ("fun", a), ("let",), ("both",), ("name", 1), ("fun", a), ("name", 0), ("call",), ("first",), ("name", 0), ("call",), ("second",), ("name", 0), ("name", 1)]), printed([("fun", pair), ("name", 0)])]
+[[('fun', ('fun', ('letter', 0), ('letter', 0))), ('fun', ('letter', 0)), ('call',), ('name', 1), ('name', 0)], [('fun', ('pair', ('letter', 0), ('letter', 0))), ('both',), ('first',), ('name', 0), ('second',), ('name', 0)]]
+>>> [print_calls([("fun", aa), ("name", 0)]), is_printed([("fun", aa), ("name", 0)], [("fun", aa), ("fun", a), ("call",), ("name", 1), ("name", 0)]), is_long(aa, [("fun", a), ("name", 0)]), [long_count(("fun", aa, aa), many) for many in range(1, 8)], long_programs(("fun", pair, a), 4)]
+[1, True, True, [0, 0, 1, 0, 1, 0, 1], [[('fun', ('pair', ('letter', 0), ('letter', 0))), ('first',), ('name', 0)], [('fun', ('pair', ('letter', 0), ('letter', 0))), ('second',), ('name', 0)]]]
+
+>>> from selfprint.codes import code_kind, is_code
+>>> from selfprint.compiler import compiled
+>>> a, to_a = ("letter", 0), ("fun", ("letter", 0), ("letter", 0))
+>>> twice = compiled([("fun", to_a), ("fun", a), ("call",), ("name", 1), ("call",), ("name", 1), ("name", 0)])
+>>> [twice[1], twice[2][3], code_kind(twice) == ("fun", to_a, to_a), is_code(twice[1:])]
+[([], [('fun', ('letter', 0), ('letter', 0))], ('fun', ('letter', 0), ('letter', 0)), [('make', 2, [('given',)])]), [('slot', 0), ('slot', 0), ('given',), ('call',), ('call',)], True, False]
+
+>>> from selfprint.orders import code_calls, run_code
+>>> three = compiled([("turns", ("count",)), ("told", 3), ("let",), ("next",), ("name", 0), ("next",), ("name", 0), ("told", 1)])
+>>> [run_code(three), code_calls(three), code_calls(twice), run_code([([], [], ("count",), [("told", 8), ("next",)])])]
+[7, 6, 0, 9]
+
+>>> from selfprint.codes import shaken
+>>> from selfprint.decompiler import decompiled
+>>> given = ([], [a], a, [("given",)])
+>>> odd = [([], [], to_a, [("make", 2, [])]), given, ([], [a], a, [("make", 3, []), ("given",), ("call",)]), given]
+>>> [decompiled(odd), len(shaken(odd)), code_calls(odd), decompiled(twice)[4:]]
+[[('fun', ('letter', 0)), ('name', 0)], 3, 0, [('call',), ('name', 1), ('name', 0)]]
+
+>>> from selfprint.codetext import code_text, read_code
+>>> code_text(shaken(odd))[:39]
+'entry 0\ntells a > a\n  make 1\nentry 1\ngi'
+>>> [read_code(code_text(twice)) == twice, code_text([([], [], ("count",), [("told", 8)])])]
+[True, 'entry 0\ntells count\n  told 8']
 '''
 
 

@@ -12,7 +12,7 @@ TREES = {name: ast.parse(path.read_text(encoding="utf-8")) for name, path in FIL
 
 ALLOWED_BUILTINS = set("""
     len range enumerate zip min max sum abs sorted reversed int str bool list tuple dict set isinstance ord repr
-    any all divmod iter next map Exception ValueError TypeError KeyError IndexError LookupError ZeroDivisionError
+    any all divmod iter next map property Exception ValueError TypeError KeyError IndexError LookupError ZeroDivisionError
     ArithmeticError RuntimeError NotImplementedError NotImplemented StopIteration""".split())
 ALLOWED_METHODS = set("""
     append clear copy count endswith extend find get index insert isalnum isalpha isdigit islower isspace isupper

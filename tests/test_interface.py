@@ -16,6 +16,17 @@ INTERFACE = {
     "reader": "read_kind(text) read_term(text,outside) read_program(text)",
     "printer": "write_kind(kind) write_term(term,outside) written(program)",
     "steps": "first_steps(program) is_plain(program) stepped(program,position,rule)",
+    "forms": "form(program) steps_of(program) is_steps(program,other,value) are_alike(program,other)",
+    "worths": "data_term(kind,value)",
+    "running": "value_of(program) call_row(program) call_count(program)",
+    "machine": "Run(program)",
+    "printing": """printed(program) print_calls(program) is_printed(program,value) is_long(kind,value)
+        long_count(kind,many) long_programs(kind,many)""",
+    "codes": "is_code(value) code_kind(code) shaken(code)",
+    "compiler": "compiled(program)",
+    "orders": "run_code(code) code_calls(code)",
+    "decompiler": "decompiled(code)",
+    "codetext": "code_text(code) read_code(text)",
 }
 
 
@@ -28,6 +39,14 @@ class Interface(unittest.TestCase):
                 function = getattr(module, name)
                 self.assertEqual(function.__module__, f"selfprint.{file}", name)
                 self.assertEqual(list(inspect.signature(function).parameters), parameters.split(","), name)
+
+    def test_run(self):
+        module = importlib.import_module("selfprint.machine")
+        own = vars(module.Run)
+        for name in ("calls", "is_done"):
+            self.assertIsInstance(own[name], property, name)
+        for name, parameters in (("go", ["self", "many"]), ("value", ["self"])):
+            self.assertEqual(list(inspect.signature(own[name]).parameters), parameters, name)
 
 
 if __name__ == "__main__":
