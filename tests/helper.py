@@ -543,3 +543,118 @@ def random_data_programs(rng, many, most, nodes):
         if len(program) <= nodes:
             found.append(program)
     return found
+
+
+# [62], [63] and [65] told once more, and codes that nobody compiled.
+
+TAKEN = {"next": 1, "first": 1, "second": 1, "left": 1, "right": 1, "both": 2, "call": 2, "which": 3, "turns": 3}
+
+
+def plainly_told(code, position, order, taken):
+    """The kind that an order of the entry there tells, of what it takes; None if it is not right."""
+    slots, given, _, _ = code[position]
+    match (*order, *taken):
+        case ("slot", place) if place < len(slots):
+            return slots[place]
+        case ("given",) if given:
+            return given[0]
+        case ("told", _) | ("next", ("count",)):
+            return COUNT
+        case ("both", left, right):
+            return pair(left, right)
+        case ("first", ("pair", told, _)) | ("second", ("pair", _, told)):
+            return told
+        case ("left", right, left) | ("right", left, right):
+            return sum_of(left, right)
+        case ("make", entry, sources) if position < entry < len(code):
+            told = [plainly_told(code, position, source, []) for source in sources]
+            return fun(*code[entry][1], code[entry][2]) if told == list(code[entry][0]) else None
+        case ("call", ("fun", wanted, told), argument) if wanted == argument:
+            return told
+        case ("which", ("sum", left, right), ("fun", one, told), ("fun", two, other)):
+            return told if (left, right, told) == (one, two, other) else None
+        case ("turns", ("count",), start, ("fun", taken, told)) if start == taken == told:
+            return start
+    return None
+
+
+def is_plainly_right(code):
+    """Whether all entries of a code are right, its things being of the forms that codes have."""
+    for position, (_, _, kind, orders) in enumerate(code):
+        stack = []
+        for order in orders:
+            least = len(stack) - TAKEN.get(order[0], 0)
+            told = plainly_told(code, position, order, stack[least:]) if least >= 0 else None
+            if told is None or is_plainly_too_great(told):
+                return False
+            stack[least:] = [told]
+        if stack != [kind]:
+            return False
+    return True
+
+
+def is_plainly_too_great(kind):
+    def deep_in(inner):
+        return 1 + max([deep_in(one) for one in inner[1:] if isinstance(one, tuple)], default=0)
+
+    return str(kind).count("(") > 60 or deep_in(kind) > 12
+
+
+def detoured(rng, code):
+    """A right code with one more detour, at a random place of it, or None."""
+    position = rng.randrange(len(code))
+    slots, given, kind, orders = code[position]
+    place = rng.randrange(1, len(orders) + 1)
+    detour = rng.choice([
+        [("told", 7), ("both",), ("first",)], [("next",)], [("make", position + 1, []), ("both",), ("first",)],
+        [("given",), ("both",), ("first",)], [("slot", 0), ("both",), ("first",)], [("told", 3), ("both",), ("second",), ("next",)]])
+    changed = (slots, given, kind, orders[:place] + detour + orders[place:])
+    made = code[:position] + [changed] + code[position + 1:]
+    return made if is_plainly_right(made) else None
+
+
+def moved(code, position, many):
+    """The code's entries, with makes of entries from the position on told so many further on."""
+    def later(order):
+        return ("make", order[1] + many, order[2]) if order[0] == "make" and order[1] >= position else order
+
+    return [(slots, given, kind, [later(order) for order in orders]) for slots, given, kind, orders in code]
+
+
+def with_twin(rng, code):
+    """A right code with one entry twice, of which one make tells the one, perhaps, and others the other one."""
+    position = rng.randrange(1, len(code)) if len(code) > 1 else 0
+    if position == 0:
+        return code
+    made = moved(code, position, 1)
+    made = made[:position] + [made[position]] + made[position:]
+
+    def either(order):
+        return ("make", position, order[2]) if order[:2] == ("make", position + 1) and rng.randrange(2) else order
+
+    return [(slots, given, kind, [either(order) for order in orders]) if place < position else (slots, given, kind, orders)
+            for place, (slots, given, kind, orders) in enumerate(made)]
+
+
+def with_turned_slots(rng, code):
+    """A right code whose slots stand in another sequence, entry by entry."""
+    rows = [rng.sample(range(len(slots)), len(slots)) for slots, _, _, _ in code]
+
+    def turned_order(order, row):
+        if order[0] == "slot":
+            return ("slot", row.index(order[1]))
+        if order[0] == "make":
+            sources = [turned_order(source, row) for source in order[2]]
+            return ("make", order[1], [sources[place] for place in rows[order[1]]])
+        return order
+
+    return [([slots[place] for place in row], given, kind, [turned_order(order, row) for order in orders])
+            for row, (slots, given, kind, orders) in zip(rows, code)]
+
+
+def changed_code(rng, code):
+    """A right code that nobody compiled, of the same kind."""
+    for _ in range(4):
+        code = detoured(rng, code) or code
+        code = with_twin(rng, code) if rng.randrange(2) else code
+    return with_turned_slots(rng, code)
