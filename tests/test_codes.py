@@ -176,7 +176,8 @@ TAKES = [
     (("turns",), [COUNT, fun(A, B), fun(fun(A, B), fun(A, B))], fun(A, B)),
 ]
 OTHERS = [A, B, COUNT, AA, fun(A, B), fun(B, A), fun(A, COUNT), fun(COUNT, A), pair(A, B), pair(B, A), sum_of(A, B), sum_of(B, A),
-          fun(sum_of(A, B), A), pair(COUNT, COUNT)]
+          fun(sum_of(A, B), A), pair(COUNT, COUNT), sum_of(A, A), sum_of(B, B), fun(B, COUNT), fun(COUNT, COUNT), fun(fun(A, B), A),
+          fun(fun(A, B), fun(A, B))]
 
 
 class Orders(Checks):

@@ -197,8 +197,8 @@ tells|tells |tells 1|tells (a)|tells a >a|tells a > (a > a)|tells (a * a) * a|te
   slot|  slot |  slot a|  slot 00|  slot 01|  slot  0|  slot 0 |  slot -1|  slot 0 0|   slot 0
   given |  given 0|  given a|   given| given|  Given|  next 1|  next |   next|next|  nexts|  both 0|both|  first x|  second |  call 2|  call:
   which | which|which|  which 1|  turns 3|  turns a|turns|  turns |  let|  name 0|  fun a|  order|  tells a|  entry 1|  make: given
-  left|  left |  left a|  left [a]|  left[a|  left[]|  left[ a]|  left[a ]|  left[a] |  left[(a)]|  left[g]|  left[a>b]|  left[a]]|  left[[a]]|   left[a]
-  right|  right a|  right [a]|  right[b|  right]|  right[a] 0|  right[A]|  right[0]|right[a]|  rightt[a]|  Right[a]|  both[a]|  [a]
+  left|  left |  left a|  left [a]|  left[a|  left[]|  left[ a]|  left[a ]|  left[a] |  left[(a)]|  left[g]|  left[a>b]|  left[a]]|  left[[a]]|   left[a]|  left[aa|  left[a)|  left[a b
+  right|  right a|  right [a]|  right[b|  right]|  right[a] 0|  right[A]|  right[0]|right[a]|  rightt[a]|  Right[a]|  both[a]|  [a]|  right[bb|  right[(a)|  right[a > bb
   make|  make |  make a|  make 01|  make 00|  make 1:|  make 1: |  make 1:given|  make 1 given|  make 1 : given|  make 1:  given|  make :
   make 1: x|  make 1: slot|  make 1: slot a|  make 1: slot 00|  make 1: given,|  make 1: given, |  make 1: given,given|  make 1: given , given
   make 1: given,  given|  make 1: , given|  make 1: told 1|  make 1: next|  make 1: make 2|  make 1: make 2: given|  make 1: left[a]|  make 1: slot 0 0

@@ -199,6 +199,16 @@ class Form(unittest.TestCase):
                     inner = [one for one in ast.walk(node.value) if isinstance(one, (ast.List, ast.Dict))]
                     self.assertEqual([one for one in inner if one is not node.value], [], name)
 
+    def test_tables_name_functions_defined_above(self):
+        for name, tree in TREES.items():
+            above = []
+            for node in tree.body:
+                if isinstance(node, ast.FunctionDef):
+                    above.append(node.name)
+                if isinstance(node, ast.Assign):
+                    named = [one.id for one in ast.walk(node.value) if isinstance(one, ast.Name)]
+                    self.assertEqual([one for one in named if one not in above], [], name)
+
     def test_comparisons_with_is(self):
         for where, node in self.each(ast.Compare):
             if any(isinstance(one, (ast.Is, ast.IsNot)) for one in node.ops):

@@ -84,7 +84,8 @@ class DataTerms(Checks):
         wrong = ODD + [
             ["left", 1], ["right", ("both", 1, 1)], ("left",), ("left", 1, 1), ("right",), ("right", 1), ("left", ("both", 1, 1)),
             ("left", True), ("left", 1000001), ("right", ["both", 1, 1]), ("right", ("both", 1, True)), ("both", 1, 1), 1, ("sum", 1),
-            ("Left", 1), (0, 1), (["left"], 1), ("left", COUNT), ("right", None), ("left", ("left", 1))]
+            ("Left", 1), (0, 1), (["left"], 1), ("left", COUNT), ("right", None), ("left", ("left", 1)), ("sum", ("both", 1, 1)),
+            ("both", ("both", 1, 1)), ("", ("both", 1, 1)), (None, 1), (True, ("both", 1, 1))]
         self.check_invalid(InvalidWorth, data_term, "value", wrong, kind=SIDES, value=None)
 
     def test_worths_of_other_kinds(self):
