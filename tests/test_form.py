@@ -199,7 +199,7 @@ class Form(unittest.TestCase):
                     inner = [one for one in ast.walk(node.value) if isinstance(one, (ast.List, ast.Dict))]
                     self.assertEqual([one for one in inner if one is not node.value], [], name)
 
-    def test_tables_name_functions_defined_above(self):
+    def test_tables_name_what_is_defined_above(self):
         for name, tree in TREES.items():
             above = []
             for node in tree.body:
@@ -208,6 +208,7 @@ class Form(unittest.TestCase):
                 if isinstance(node, ast.Assign):
                     named = [one.id for one in ast.walk(node.value) if isinstance(one, ast.Name)]
                     self.assertEqual([one for one in named if one not in above], [], name)
+                    above.append(node.targets[0].id)
 
     def test_comparisons_with_is(self):
         for where, node in self.each(ast.Compare):
