@@ -1,11 +1,10 @@
 """The rows of the texts of codes, written and read one by one."""
 
-from selfprint.entries import BARE_WORDS, SOURCE_WORDS
+from selfprint.entries import BARE_WORDS, MOST_ENTRIES, SOURCE_WORDS, is_entry, is_right
 from selfprint.errors import BadText, TooMany
-from selfprint.nodes import MOST_TOLD
 from selfprint.printer import LOOSE, kind_text
 from selfprint.reading import kind_read
-from selfprint.signs import is_number
+from selfprint.signs import read_count
 
 INDENT = "  "
 KIND_ROWS = ("slot", "given", "tells")
@@ -42,22 +41,32 @@ def order_text(order):
     return word if word in BARE_WORDS else f"{word} {order[1]}"
 
 
-def entries_read(text):
-    """The list of the entries that the rows of a text tell, whether they are right or not."""
+def rows_read(rows):
+    """A tuple: the entries that rows tell, right or not, and the place of the first row at fault.
+
+    The place is None if there is none, and the number of the rows if more are wanted.
+    """
     entries = []
     wanted = ("entry",)
-    spot = 0
-    for row in text.split("\n"):
+    for place, row in enumerate(rows):
         name, told = read_row(row, len(entries))
         if told is None or name not in wanted:
-            raise BadText(spot)
+            return [], place
         put_row(entries, name, told)
         # Entry 0 has no slots, and nothing is given.
         wanted = ("tells",) if name == "entry" and len(entries) == 1 else BEHIND[name]
-        spot += len(row) + 1
-    if "entry" not in wanted:
-        raise BadText(len(text))
-    return [tuple(entry) for entry in entries]
+    if not rows or "entry" not in wanted:
+        return [], len(rows)
+    return [tuple(entry) for entry in entries], None
+
+
+def first_wrong_entry(entries):
+    """The position of the first entry that is not right, or beyond a bound; None if there is none."""
+    for position, entry in enumerate(entries):
+        # is_right wants the form of its own entry alone: others have all kinds by their rows.
+        if position >= MOST_ENTRIES or not is_entry(entry, position) or not is_right(entries, position):
+            return position
+    return None
 
 
 def put_row(entries, name, told):
@@ -93,14 +102,6 @@ def read_written_kind(text):
     except TooMany:
         return None
     return kind if kind_text(kind, LOOSE) == text else None
-
-
-def read_count(text):
-    """The count that is written so, without needless zeros; None if none is."""
-    if not is_number(text) or (text[0] == "0" and text != "0"):
-        return None
-    # Python does not read numbers of thousands of figures, and so great a one is beyond all bounds.
-    return MOST_TOLD + 1 if len(text) > len(str(MOST_TOLD)) else int(text)
 
 
 def read_order(text):

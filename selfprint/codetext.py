@@ -1,9 +1,8 @@
 """Codes written as texts, and read again."""
 
 from selfprint.codes import need_code
-from selfprint.coderows import entries_read, entry_rows
-from selfprint.entries import MOST_ENTRIES, is_entry, is_right
-from selfprint.errors import BadEntry, TooMany
+from selfprint.coderows import entry_rows, first_wrong_entry, rows_read
+from selfprint.errors import BadEntry, BadText, TooMany
 from selfprint.printer import MOST_TEXT
 from selfprint.signs import need_text
 
@@ -23,9 +22,17 @@ def code_text(code):
 def read_code(text):
     """The code whose text it is."""
     need_text(text)
-    entries = entries_read(text)
-    for position, entry in enumerate(entries):
-        # is_right wants the form of its own entry alone: others have all kinds by their rows.
-        if position >= MOST_ENTRIES or not is_entry(entry, position) or not is_right(entries, position):
-            raise BadEntry(position)
+    rows = text.split("\n")
+    entries, place = rows_read(rows)
+    if place is not None:
+        raise BadText(begin_of_row(rows, place))
+    position = first_wrong_entry(entries)
+    if position is not None:
+        raise BadEntry(position)
     return entries
+
+
+def begin_of_row(rows, place):
+    """The spot at which the row there begins in their text; the text's length if there is none."""
+    behind = sum([len(row) + 1 for row in rows[:place]])
+    return behind if place < len(rows) else behind - 1

@@ -8,7 +8,7 @@ from selfprint.longs import Longs
 from selfprint.readers import read_worth
 from selfprint.steps import HOLDERS
 from selfprint.termrun import TermRun
-from selfprint.terms import is_term
+from selfprint.terms import is_same_term
 
 MOST_LONG = 12
 MOST_PROGRAMS = 400
@@ -47,7 +47,7 @@ def print_calls(program):
 def is_printed(program, value):
     """Whether any value is the printed form of a program."""
     nodes = printed(program)
-    return is_term(value) and list(value) == nodes
+    return is_same_term(nodes, value)
 
 
 def is_long(kind, value):

@@ -1,4 +1,4 @@
-"""The pieces of a text, and the names that may stand outside of it."""
+"""The pieces of a text, counts as they are written, and the names that may stand outside of it."""
 
 from selfprint.basics import is_list
 from selfprint.errors import BadText, InvalidOutside, InvalidText
@@ -10,6 +10,8 @@ MARKS = ":.,()[]*+>="
 BLANKS = " \n"
 OWN_WORDS = ("fun", "let", "in", "which", "turns", "first", "second", "next", "left", "right", "count")
 MOST_OUTSIDE = 8
+MOST_FIGURES = 7
+BEYOND = 10000000
 
 
 def end_of_run(text, spot, signs):
@@ -78,6 +80,17 @@ def is_word(piece):
 def is_number(piece):
     """Whether a string is a count as it is written in a text."""
     return piece != "" and end_of_run(piece, 0, FIGURES) == len(piece)
+
+
+def read_count(text):
+    """The count that is written so, without needless zeros; None if none is.
+
+    What has more figures than any bound comes as a count beyond all bounds, as
+    Python does not read numbers of thousands of figures.
+    """
+    if not is_number(text) or (text[0] == "0" and text != "0"):
+        return None
+    return BEYOND if len(text) > MOST_FIGURES else int(text)
 
 
 def is_name(piece):

@@ -1,9 +1,9 @@
 """Single steps: where a rule makes one, and what it makes."""
 
 from selfprint.checked import found_kinds, need_program
-from selfprint.errors import InvalidRule, NoStep, TooMany
-from selfprint.nodes import MOST_NODES, MOST_TOLD, child_parts, ends, lifted_freely, put_in_freely
-from selfprint.terms import need_position
+from selfprint.errors import InvalidRule, NoStep
+from selfprint.nodes import MOST_TOLD, child_parts, ends, lifted_freely, put_in_freely
+from selfprint.terms import need_few_nodes, need_position
 
 RULES = ("call", "first", "second", "which", "turns", "next", "let", "long")
 HOLDERS = ("call", "first", "second")
@@ -83,8 +83,7 @@ def stepped(program, position, rule):
 def small_step(program, position, rule):
     """What a first step makes of the list of a program's nodes: TooMany if it has more nodes than a program."""
     made = step_made(program, position, rule)
-    if len(made) > MOST_NODES:
-        raise TooMany("nodes", MOST_NODES)
+    need_few_nodes(made)
     return made
 
 

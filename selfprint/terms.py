@@ -56,6 +56,17 @@ def open_names(term):
     return max([0] + wanted)
 
 
+def is_same_term(term, value):
+    """Whether any value is a term, and equal to what is surely one."""
+    return is_term(value) and list(value) == list(term)
+
+
+def need_few_nodes(nodes):
+    """TooMany if there are more nodes than a term has."""
+    if len(nodes) > MOST_NODES:
+        raise TooMany("nodes", MOST_NODES)
+
+
 def need_near_names(term):
     """TooMany if a name is further out than a name can be."""
     if furthest_name(term) > MOST_OUT:
@@ -77,8 +88,7 @@ def put_in(term, other):
     need_term(term)
     need_term(other)
     made = put_in_freely(term, other)
-    if len(made) > MOST_NODES:
-        raise TooMany("nodes", MOST_NODES)
+    need_few_nodes(made)
     need_near_names(made)
     return made
 

@@ -12,7 +12,7 @@ TREES = {name: ast.parse(path.read_text(encoding="utf-8")) for name, path in FIL
 
 ALLOWED_BUILTINS = set("""
     len range enumerate zip min max sum abs sorted reversed int str bool list tuple dict set isinstance ord repr
-    any all divmod iter next map property Exception ValueError TypeError KeyError IndexError LookupError ZeroDivisionError
+    any all divmod iter next map property classmethod Exception ValueError TypeError KeyError IndexError LookupError ZeroDivisionError
     ArithmeticError RuntimeError NotImplementedError NotImplemented StopIteration""".split())
 ALLOWED_METHODS = set("""
     append clear copy count endswith extend find get index insert isalnum isalpha isdigit islower isspace isupper
@@ -218,14 +218,25 @@ class Form(unittest.TestCase):
     def test_caught_errors(self):
         own = {node.name for node in TREES["errors"].body if isinstance(node, ast.ClassDef)}
         for where, node in self.each(ast.ExceptHandler):
-            self.assertIsInstance(node.type, ast.Name, where)
-            self.assertIn(node.type.id, own | {"KeyError", "ZeroDivisionError"}, where)
+            for one in node.type.elts if isinstance(node.type, ast.Tuple) else [node.type]:
+                self.assertIsInstance(one, ast.Name, where)
+                self.assertIn(one.id, own | {"KeyError", "ZeroDivisionError"}, where)
+
+    def test_desks_and_trials(self):
+        of_desk = {node.name: node for node in functions(TREES["desk"])}
+        self.assertEqual(ast.unparse(of_desk["__iter__"].body[0]), "raise TypeError('a desk is not iterated over')")
+        self.assertEqual([ast.unparse(row) for row in of_desk["__exit__"].body],
+                         ["desk = self._desk", "desk._kept = self._before", "return False"])
+        # What an operator or a property runs changes nothing.
+        for name in ("__len__", "__contains__", "__getitem__", "names", "labels"):
+            self.assertEqual([one for one in ast.walk(of_desk[name]) if isinstance(one, (ast.Assign, ast.AugAssign))], [])
 
     def test_each_part_tells_what_it_is(self):
         for name, tree in TREES.items():
             self.assertIsNotNone(ast.get_docstring(tree), name)
             for node in ast.walk(tree):
-                if isinstance(node, (ast.FunctionDef, ast.ClassDef)) and node.name != "__init__":
+                bare = ("__init__", "__iter__", "__exit__")
+                if isinstance(node, (ast.FunctionDef, ast.ClassDef)) and node.name not in bare:
                     self.assertIsNotNone(ast.get_docstring(node), f"{name}.{node.name}")
 
 
