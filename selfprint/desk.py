@@ -232,7 +232,7 @@ def is_kept(shelf, part, name, first):
 
 
 def value_told(shelf, part, text):
-    """The value of a command's part: new lists of a thing, with its sort where that is not told; a COUNT; else the text."""
+    """The value of a command's part: a thing, new, with its sort where none is told; a COUNT; else the text."""
     if part in SORTED:
         return renewed(shelf.things[text][1])
     if part in ("thing", "like"):

@@ -3,6 +3,11 @@
 import doctest
 import unittest
 
+from selfprint.parting import is_test
+from selfprint.printing import printed
+from selfprint.reader import read_program
+from selfprint.ways import first_parting, parting_depth
+
 EXAMPLES = r'''
 >>> from selfprint.kinds import is_data, is_kind, is_met, is_shown, kind_size, letters, put_kind
 >>> a, b, step = ("letter", 0), ("letter", 1), ("fun", ("letter", 0), ("letter", 0))
@@ -101,6 +106,63 @@ EXAMPLES = r'''
 'entry 0\ntells a > a\n  make 1\nentry 1\ngi'
 >>> [read_code(code_text(twice)) == twice, code_text([([], [], ("count",), [("told", 8)])])]
 [True, 'entry 0\ntells count\n  told 8']
+
+>>> from selfprint.left import arrows, behind, called, is_left, left_at, left_of
+>>> a, go = ("letter", 0), ("fun", ("letter", 0), ("letter", 0))
+>>> power = [("fun", ("count",)), ("fun", go), ("fun", a), ("turns", a), ("name", 2), ("call",), ("name", 2), ("name", 0), ("name", 0)]
+>>> [left_of(power, [[("told", 2)]]), called(power, [[("told", 2)]])[:2], is_left(power, [[("told", 0)]], [("fun", go), ("fun", a), ("name", 0)]), len(arrows(("fun", ("count",), ("fun", go, go))))]
+[[('fun', ('fun', ('letter', 0), ('letter', 0))), ('fun', ('letter', 0)), ('call',), ('name', 1), ('call',), ('name', 1), ('name', 0)], [('call',), ('fun', ('count',))], True, 3]
+>>> twice, later = left_of(power, [[("told", 2)]]), [("fun", go), ("fun", ("count",)), ("fun", a), ("turns", a), ("name", 1), ("call",), ("name", 3), ("name", 0), ("name", 0)]
+>>> [left_of(behind(twice, twice), []) == left_of(power, [[("told", 4)]]), left_at(later, [1], [[("told", 2)]]) == twice, behind(twice, twice)[:2]]
+[True, True, [('fun', ('fun', ('letter', 0), ('letter', 0))), ('call',)]]
+
+>>> from selfprint.tiny import interpreter, is_tiny, tiny_left, tiny_term
+>>> [is_tiny([("f", 2), ("keep", 1), ("g", 1)]), is_tiny([("f", 10)]), is_tiny([["f", 1]]), tiny_term([("g", 3)])[:4]]
+[True, False, False, [('both',), ('left', ('sum', ('count',), ('count',))), ('right', ('count',)), ('told', 3)]]
+>>> [tiny_left([("f", 1), ("keep", 1), ("g", 1)])[3:], tiny_left([])[3:], left_of(interpreter(), [tiny_term([("f", 1)])]) == tiny_left([("f", 1)])]
+[[('call',), ('name', 1), ('both',), ('call',), ('name', 2), ('name', 0), ('call',), ('name', 2), ('name', 0)], [('name', 0)], True]
+
+>>> from selfprint.reader import read_program
+>>> from selfprint.ways import first_parting, parted, parting_depth
+>>> near, far = read_program("fun x : a. fun y : a. x"), read_program("fun x : a. fun y : a. y")
+>>> [first_parting(near, far), parting_depth(near, far), parted(near, near), first_parting(near, near), first_parting([("both",), ("told", 1), ("told", 2)], [("both",), ("told", 1), ("told", 3)]), first_parting(read_program("fun f : a > a. fun x : a. f (f x)"), read_program("fun f : a > a. fun x : a. f x"))]
+[[('fun',), ('fun',)], 0, False, None, [('second',)], [('fun',), ('fun',), ('argument', 0)]]
+
+>>> from selfprint.callers import row_kind, row_part, rows_put, test_of
+>>> [row_kind(3), row_part(3, 1)[1:], rows_put(1, near)[0], test_of(near, near), test_of(near, far)[0]]
+[('pair', ('count',), ('pair', ('count',), ('count',))), [('first',), ('second',), ('name', 0)], ('fun', ('count',)), None, 1]
+
+>>> from selfprint.parting import asked, is_test
+>>> caller = read_program("fun p : count > count > count. p 0 1")
+>>> [is_test(near, far, (1, caller)), is_test(far, near, (1, caller)), is_test(near, far, test_of(near, far)), asked(far, 1, caller), is_test(near, far, [1, caller])]
+[True, False, True, 1, False]
+
+>>> from selfprint.texts import filed, is_of_sort
+>>> a = ("letter", 0)
+>>> [filed("kind", ("fun", a, a)), filed("program", [("fun", a), ("name", 0)]), filed("steps", [(0, "next")]), filed("test", (1, [("told", 3)])), is_of_sort("steps", [(0, "jump")])]
+['kind a > a\n', 'program fun x0 : a. x0\n', 'steps\nstep 0 next\n', 'test 1 3\n', False]
+
+>>> from selfprint.files import read
+>>> [read("steps\nstep 0 next\n"), read("code\nentry 0\ntells count\n  told 8\n") == ("code", [([], [], ("count",), [("told", 8)])])]
+[('steps', [(0, 'next')]), True]
+
+>>> from selfprint.claims import contrary, is_paper_of, is_true
+>>> more, eight = [("fun", ("count",)), ("next",), ("name", 0)], [([], [], ("count",), [("told", 8)])]
+>>> [is_paper_of(("alike", [("next",), ("told", 1)], [("told", 2)]), ([("told", 2)], [(0, "next")], [])), is_paper_of(("prints", eight, [("told", 8)]), []), is_true(("leaves", more, [[("told", 2)]], [("told", 3)]))]
+[True, True, True]
+>>> [is_paper_of(("steps", [("next",), ("told", 1)]), (0, "next")), is_true(("unlike", [("told", 1)], [("told", 2)])), contrary(("plain", more)) == ("steps", more)]
+[True, True, True]
+
+>>> from selfprint.commands import is_command, is_deed
+>>> [is_command("program f fun x : a. x"), is_command("program f "), is_deed("claim k alike f g"), is_command("step f 0 call"), is_deed("worth f"), is_command("step f 0 jump")]
+[True, False, True, True, False, False]
+
+>>> from selfprint.desk import Desk
+>>> desk = Desk()
+>>> desk.do_all("program f fun g : a > a. fun x : a. let h = (g, fun y : a. y) in first h ((second h) x)", "print p f", "show p", "claim k alike f p", "claim s plain f", "firsts p", "program t 2", "worth t", "size p", "ready p")
+['-', '-', 'fun x0 : a > a. fun x1 : a. x0 x1', 'k true', 's false', '-', '-', '2', '5', 'yes']
+>>> desk.do_all("program q fun n : count. fun g : a > a. fun x : a. turns n (y : a. g y) x", "left r q t", "show r", "code c r", "back d c", "same r d", "calls t", "kindof z q", "show z", "step f 2 let", "states", "undo")
+['-', '-', 'fun x0 : a > a. fun x1 : a. x0 (x0 x1)', '-', '-', 'yes', '0', '-', 'count > (a > a) > a > a', '-', 'k true, s false', 'step f 2 let']
 '''
 
 
@@ -111,6 +173,17 @@ class Examples(unittest.TestCase):
         faults = []
         doctest.DocTestRunner(verbose=False).run(told, out=faults.append)
         self.assertEqual("".join(faults), "")
+
+    def test_the_first_one(self):
+        # Ahead of all stages, in [1].
+        text = "fun f : a > a. fun x : a. let g = (f, fun y : a. y) in first g ((second g) x)"
+        self.assertEqual(printed(read_program(text)), read_program("fun f : a > a. fun x : a. f x"))
+
+    def test_the_one_of_87(self):
+        one, other = read_program("fun x : a. fun y : a. x"), read_program("fun x : a. fun y : a. y")
+        self.assertEqual(first_parting(one, other), [("fun",), ("fun",)])
+        self.assertEqual(parting_depth(one, other), 0)
+        self.assertTrue(is_test(one, other, (1, read_program("fun p : count > count > count. p 0 1"))))
 
 
 if __name__ == "__main__":

@@ -27,6 +27,19 @@ INTERFACE = {
     "orders": "run_code(code) code_calls(code)",
     "decompiler": "decompiled(code)",
     "codetext": "code_text(code) read_code(text)",
+    "left": """arrows(kind) called(program,arguments) left_of(program,arguments)
+        called_at(program,places,arguments) left_at(program,places,arguments) is_left(program,arguments,value)
+        behind(program,other) left_code(code,arguments)""",
+    "tiny": "is_tiny(value) tiny_term(tiny) interpreter() tiny_left(tiny)",
+    "ways": "first_parting(program,other) parting_depth(program,other) parted(program,other)",
+    "callers": "row_kind(many) row_part(many,place) rows_put(many,program) test_of(program,other)",
+    "parting": "is_test(program,other,value) asked(program,many,caller)",
+    "texts": "sorts() is_of_sort(sort,value) filed(sort,value)",
+    "files": "read(text)",
+    "claims": """words() is_claim(value) is_true(claim) contrary(claim) paper_of(claim)
+        is_paper_of(claim,value)""",
+    "commands": "is_name(value) is_command(value) is_deed(value)",
+    "desk": "Desk() Trial(desk) tried(desk,action)",
 }
 
 
@@ -38,7 +51,8 @@ class Interface(unittest.TestCase):
                 name, parameters = each.rstrip(")").split("(")
                 function = getattr(module, name)
                 self.assertEqual(function.__module__, f"selfprint.{file}", name)
-                self.assertEqual(list(inspect.signature(function).parameters), parameters.split(","), name)
+                wanted = [parameter for parameter in parameters.split(",") if parameter]
+                self.assertEqual(list(inspect.signature(function).parameters), wanted, name)
 
     def test_run(self):
         module = importlib.import_module("selfprint.machine")
@@ -47,6 +61,26 @@ class Interface(unittest.TestCase):
             self.assertIsInstance(own[name], property, name)
         for name, parameters in (("go", ["self", "many"]), ("value", ["self"])):
             self.assertEqual(list(inspect.signature(own[name]).parameters), parameters, name)
+
+    def test_desk(self):
+        module = importlib.import_module("selfprint.desk")
+        own = vars(module.Desk)
+        for name in ("names", "labels"):
+            self.assertIsInstance(own[name], property, name)
+        for told in ("do(command)", "__call__(command)", "do_all(commands)", "attempt(commands)", "attach(label,paper)",
+                     "fits(label)", "claim_of(label)", "lines()", "copy()", "__len__()"):
+            name, parameters = told.rstrip(")").split("(")
+            wanted = ["self"] + [parameter for parameter in parameters.split(",") if parameter]
+            self.assertEqual(list(inspect.signature(own[name]).parameters), wanted, name)
+        for name in ("do_all", "attempt"):
+            parameter = inspect.signature(own[name]).parameters["commands"]
+            self.assertEqual(parameter.kind, inspect.Parameter.VAR_POSITIONAL, name)
+        self.assertIsInstance(own["again"], classmethod)
+        self.assertEqual(list(inspect.signature(module.Desk.again).parameters), ["lines"])
+        for name in ("__contains__", "__getitem__"):
+            self.assertIn(name, own)
+        for name in ("__enter__", "__exit__"):
+            self.assertIn(name, vars(module.Trial))
 
 
 if __name__ == "__main__":
