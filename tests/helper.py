@@ -5,6 +5,7 @@ import re
 import unittest
 
 from selfprint.nodes import BINDS
+from selfprint.reader import read_kind, read_program
 
 A, B, C = ("letter", 0), ("letter", 1), ("letter", 2)
 COUNT = ("count",)
@@ -37,6 +38,11 @@ def deep(many):
     for _ in range(many - 1):
         kind = fun(A, kind)
     return kind
+
+
+def counts_kind(kind):
+    """The kind with count in the place of all letters."""
+    return COUNT if kind[0] == "letter" else (kind[0], counts_kind(kind[1]), counts_kind(kind[2]))
 
 
 def too_wide_by_right(signs):
@@ -658,3 +664,39 @@ def changed_code(rng, code):
         code = detoured(rng, code) or code
         code = with_twin(rng, code) if rng.randrange(2) else code
     return with_turned_slots(rng, code)
+
+
+# Closed programs of kinds that arguments may have, and programs that are called at such ones first.
+
+CLOSED = {
+    "count": ["0", "3", "next 1", "turns 2 (x : count. next x) 1"],
+    "a > a": ["fun x : a. x", "fun x : a. let y = x in y"],
+    "count > count": ["fun n : count. next n", "fun n : count. 4", "fun n : count. turns n (x : count. next x) n"],
+    "count + (a > a)": ["left[a > a] 2", "right[count] (fun x : a. x)"],
+    "(a > a) > a > a": ["fun f : a > a. f", "fun f : a > a. fun x : a. f (f x)", "fun f : a > a. fun x : a. x"],
+    "a * a > a": ["fun p : a * a. first p", "fun p : a * a. second p"],
+    "(count > count) * count": ["(fun n : count. next n, 2)", "let g = fun n : count. next (next n) in (g, g 1)"],
+    "a > b > a": ["fun x : a. fun y : b. x"],
+    "(a * b) > b * a": ["fun p : a * b. (second p, first p)"],
+}
+
+
+def random_called(rng, many, most, nodes):
+    """So many tuples: a program, as many arguments for it as it has ahead of those of ROW, and their kinds' texts."""
+    found = []
+    while len(found) < many:
+        texts = [rng.choice(list(CLOSED)) for _ in range(rng.randrange(1, 4))]
+        kinds = [read_kind(text) for text in texts]
+        kind = random_kind(rng, 3)
+        if not is_plainly_shown(kind):
+            continue
+        # Inside stand the names of ROW, around them those of the arguments, the last one nearest.
+        term = random_fitting(rng, kind, kinds[::-1] + list(ROW), most)
+        inner = [("fun", bound) for bound in ROW[::-1] + kinds] + term
+        outer = [("fun", bound) for bound in kinds + ROW[::-1]]
+        names = list(range(len(ROW) - 1, -1, -1)) + list(range(len(outer) - 1, len(ROW) - 1, -1))
+        program = outer + [("call",)] * len(outer) + inner + [("name", name) for name in names]
+        arguments = [read_program(rng.choice(CLOSED[text])) for text in texts]
+        if len(program) <= nodes:
+            found.append((program, arguments, texts))
+    return found
