@@ -700,3 +700,133 @@ def random_called(rng, many, most, nodes):
         if len(program) <= nodes:
             found.append((program, arguments, texts))
     return found
+
+
+# [81] to [83] told once more, and pairs of programs of one shown kind.
+
+
+def plain_head(tree):
+    """Of what stands at a letter's place: the name, the words from it out, and the arguments, the nearest first."""
+    words, arguments = [], []
+    while tree[0][0] != "name":
+        words.insert(0, tree[0][0])
+        arguments = tree[1][1:] + arguments
+        tree = tree[1][0]
+    return tree[0], words, arguments
+
+
+def plain_parting(one, other):
+    """The way of the first parting of two plain long trees; None if there is none."""
+    (node, inner), (other_node, other_inner) = one, other
+    if node[0] in ("fun", "left", "right") and node == other_node:
+        found = plain_parting(inner[0], other_inner[0])
+        return None if found is None else [(node[0],)] + found
+    if node[0] == "both":
+        for word, child, other_child in zip(("first", "second"), inner, other_inner):
+            found = plain_parting(child, other_child)
+            if found is not None:
+                return [(word,)] + found
+        return None
+    if node[0] in ("told", "left", "right"):
+        return None if node == other_node else []
+    name, words, arguments = plain_head(one)
+    other_name, other_words, other_arguments = plain_head(other)
+    if (name, words) != (other_name, other_words):
+        return []
+    for place, (argument, other_argument) in enumerate(zip(arguments, other_arguments)):
+        found = plain_parting(argument, other_argument)
+        if found is not None:
+            return [("argument", place)] + found
+    return None
+
+
+def plain_row(many):
+    return COUNT if many == 1 else pair(COUNT, plain_row(many - 1))
+
+
+def in_rows(value, many):
+    """A kind, or a node, with rows of so many counts in the place of all letters."""
+    if not isinstance(value, tuple):
+        return value
+    return plain_row(many) if value[0] == "letter" else tuple(in_rows(inner, many) for inner in value)
+
+
+def signs_and_depth(kind):
+    inner = [signs_and_depth(one) for one in kind[1:] if isinstance(one, tuple)]
+    return 1 + sum(signs for signs, _ in inner), 1 + max([deep_in for _, deep_in in inner], default=0)
+
+
+def shown_pairs(rng, many, most, nodes):
+    """So many pairs of programs of one shown kind, of at most so many nodes each."""
+    found = []
+    while len(found) < many:
+        kind = random_kind(rng, 3)
+        if is_plainly_shown(kind):
+            funs = [("fun", bound) for bound in ROW[::-1]]
+            one, two = [funs + random_fitting(rng, kind, list(ROW), most) for _ in range(2)]
+            if max(len(one), len(two)) <= nodes:
+                found.append((one, two))
+    return found
+
+
+# Pairs that part: the ways of their first partings.
+PARTINGS = [
+    # In funs.
+    ("fun x : a. fun y : a. x", "fun x : a. fun y : a. y", [("fun",), ("fun",)]),
+    ("fun x : a. fun f : a > a. x", "fun x : a. fun f : a > a. f x", [("fun",), ("fun",)]),
+    # In pairs, the first ahead of the second part.
+    ("(1, 2)", "(1, 3)", [("second",)]), ("(1, 2)", "(2, 2)", [("first",)]), ("(1, 2)", "(3, 4)", [("first",)]),
+    ("((1, 2), (3, 4))", "((1, 2), (4, 4))", [("second",), ("first",)]),
+    ("(fun x : a. fun y : a. x, 1)", "(fun x : a. fun y : a. y, 2)", [("first",), ("fun",), ("fun",)]),
+    # In sides, and in what is told.
+    ("left[count] 1", "right[count] 1", []), ("right[count] 1", "left[count] 1", []), ("left[count] 1", "left[count] 2", [("left",)]),
+    ("right[a] 4", "right[a] 1000000", [("right",)]),
+    ("fun x : a. fun y : a. left[count] x", "fun x : a. fun y : a. left[count] y", [("fun",), ("fun",), ("left",)]),
+    ("fun x : a. left[a] x", "fun x : a. right[a] x", [("fun",)]),
+    # In counts.
+    ("0", "1", []), ("7", "6", []), ("fun x : a. 5", "fun x : a. 65", [("fun",)]),
+    # In heads.
+    ("fun f : a > a. fun g : a > a. fun x : a. f x", "fun f : a > a. fun g : a > a. fun x : a. g x", [("fun",)] * 3),
+    ("fun f : a > a. fun x : a. f x", "fun f : a > a. fun x : a. x", [("fun",)] * 2),
+    # In parts, and in calls, around one head.
+    ("fun p : a * a. first p", "fun p : a * a. second p", [("fun",)]),
+    ("fun p : a * (a * a). first (second p)", "fun p : a * (a * a). first p", [("fun",)]),
+    ("fun p : a * (a * a). first (second p)", "fun p : a * (a * a). second (second p)", [("fun",)]),
+    ("fun f : a > a * a. fun x : a. first (f x)", "fun f : a > a * a. fun x : a. second (f x)", [("fun",)] * 2),
+    ("fun p : (a > a) * a. first p (second p)", "fun p : (a > a) * a. second p", [("fun",)]),
+    # In arguments, the nearest to the head first.
+    ("fun f : a > a. fun x : a. f (f x)", "fun f : a > a. fun x : a. f x", [("fun",), ("fun",), ("argument", 0)]),
+    ("fun f : a > a > a. fun x : a. fun y : a. f x y", "fun f : a > a > a. fun x : a. fun y : a. f y x", [("fun",)] * 3 + [("argument", 0)]),
+    ("fun f : a > a > a. fun x : a. fun y : a. f x y", "fun f : a > a > a. fun x : a. fun y : a. f x x", [("fun",)] * 3 + [("argument", 1)]),
+    ("fun f : a > a > a. fun x : a. fun y : a. f x (f y x)", "fun f : a > a > a. fun x : a. fun y : a. f x (f y y)",
+     [("fun",)] * 3 + [("argument", 1), ("argument", 1)]),
+    ("fun f : count > a > a. fun x : a. f 1 (f 2 x)", "fun f : count > a > a. fun x : a. f 2 (f 2 x)", [("fun",)] * 2 + [("argument", 0)]),
+    ("fun f : count + a > a. fun x : a. f (left[a] 3)", "fun f : count + a > a. fun x : a. f (right[count] x)", [("fun",)] * 2 + [("argument", 0)]),
+    ("fun f : count + a > a. fun x : a. f (left[a] 3)", "fun f : count + a > a. fun x : a. f (left[a] 4)",
+     [("fun",)] * 2 + [("argument", 0), ("left",)]),
+    ("fun f : a + a > a. fun x : a. fun y : a. f (right[a] x)", "fun f : a + a > a. fun x : a. fun y : a. f (right[a] y)",
+     [("fun",)] * 3 + [("argument", 0), ("right",)]),
+    ("fun f : count * (a > a > a) > a. f (1, fun x : a. fun y : a. x)", "fun f : count * (a > a > a) > a. f (1, fun x : a. fun y : a. y)",
+     [("fun",), ("argument", 0), ("second",), ("fun",), ("fun",)]),
+    # Arguments are told apart from parts between them.
+    ("fun f : a > a * (a > a). fun x : a. fun y : a. second (f x) y", "fun f : a > a * (a > a). fun x : a. fun y : a. second (f x) x",
+     [("fun",)] * 3 + [("argument", 1)]),
+    ("fun p : a * (a > a). second p (first p)", "fun p : a * (a > a). second p (second p (first p))", [("fun",), ("argument", 0)]),
+    # Deep ones, with the same head more than once.
+    ("fun f : a > a. fun x : a. f (f (f x))", "fun f : a > a. fun x : a. f (f (f (f x)))", [("fun",)] * 2 + [("argument", 0)] * 3),
+    ("fun f : (a > a) > a. f (fun x : a. f (fun y : a. x))", "fun f : (a > a) > a. f (fun x : a. f (fun y : a. y))",
+     [("fun",), ("argument", 0), ("fun",), ("argument", 0), ("fun",)]),
+    ("fun f : (a > a) > a. fun g : a > a. f (fun x : a. g (f (fun y : a. y)))", "fun f : (a > a) > a. fun g : a > a. f (fun x : a. g (f (fun y : a. x)))",
+     [("fun",)] * 2 + [("argument", 0), ("fun",), ("argument", 0), ("argument", 0), ("fun",)]),
+    # Detours leave no trace.
+    ("fun f : a > a. f", "fun f : a > a. fun x : a. let g = f in g (g x)", [("fun",)] * 2 + [("argument", 0)]),
+    ("turns 3 (x : count * count. (second x, next (first x))) (0, 10)", "(next 10, 1)", [("second",)]),
+    ("(fun p : (a > a > a) * count. first p) (fun x : a. fun y : a. x, 1)", "let g = fun x : a. fun y : a. y in g", [("fun",), ("fun",)]),
+]
+
+# Pairs of one shown kind that print alike.
+ALIKE = [
+    ("5", "next 4"), ("fun x : a. x", "fun x : a. let y = x in y"), ("fun f : a > a. f", "fun f : a > a. fun x : a. f x"),
+    ("fun p : a * b. p", "fun p : a * b. (first p, second p)"), ("left[a > a] 4", "left[a > a] (first (4, 5))"),
+    ("fun f : a > a. fun x : a. turns 2 (y : a. f y) x", "fun f : a > a. fun x : a. f (f x)"),
+]
