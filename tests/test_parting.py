@@ -234,6 +234,5 @@ class Errors(Checks):
             self.check_error(NotShown, {}, is_test, program=COUNTED, other=COUNTED, value=value)
 
 
-
 if __name__ == "__main__":
     unittest.main()
