@@ -4,6 +4,8 @@ import copy
 import re
 import unittest
 
+from selfprint.desk import Desk
+from selfprint.errors import NothingToRedo
 from selfprint.nodes import BINDS
 from selfprint.reader import read_kind, read_program
 
@@ -830,3 +832,51 @@ ALIKE = [
     ("fun p : a * b. p", "fun p : a * b. (first p, second p)"), ("left[a > a] 4", "left[a > a] (first (4, 5))"),
     ("fun f : a > a. fun x : a. turns 2 (y : a. f y) x", "fun f : a > a. fun x : a. f (f x)"),
 ]
+
+
+# Desks, and what can be seen of them.
+
+
+def filled(*commands):
+    """A desk that has done these commands."""
+    desk = Desk()
+    desk.do_all(*commands)
+    return desk
+
+
+def seen(desk):
+    """All that can be seen of a desk without changing it."""
+    names, labels = desk.names, desk.labels
+    return (names, labels, [desk[name] for name in names], [desk.claim_of(label) for label in labels],
+            [desk.fits(label) for label in labels], desk.lines(), len(desk), desk.do("states"),
+            [desk.do(f"claimed {label}") for label in labels])
+
+
+def all_seen(desk):
+    """What can be seen of a desk, and of each one that comes by doing again what was taken back."""
+    twin, found = desk.copy(), [seen(desk)]
+    while True:
+        try:
+            twin.do("redo")
+        except NothingToRedo:
+            return found
+        found.append(seen(twin))
+
+
+class DeskChecks(Checks):
+    """Checks of what desks answer, and of errors behind which nothing has changed."""
+
+    def does(self, answer, desk, command):
+        self.assertEqual(desk.do(command), answer, command)
+
+    def fails(self, wanted, attributes, desk, command):
+        before = all_seen(desk)
+        for call in (lambda: desk.do(command), lambda: desk(command), lambda: desk.do(command=command)):
+            with self.assertRaises(wanted, msg=command) as caught:
+                call()
+            self.assertIs(type(caught.exception), wanted)
+            self.assertEqual(set(vars(caught.exception)), set(attributes))
+            for name, value in attributes.items():
+                found = getattr(caught.exception, name)
+                self.assertTrue(same(found, value), f"{command}: {name} is {found!r}, wanted {value!r}")
+            self.assertEqual(all_seen(desk), before)
