@@ -17,7 +17,7 @@ class Asker:
 
     def __init__(self, trail):
         self.trail = trail
-        self.many = trail.many()
+        self.many = trail.row_size()
         self.row = row_of(self.many)
 
     def caller(self, kind):

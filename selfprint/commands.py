@@ -1,6 +1,6 @@
 """Commands of a desk, by their words alone."""
 
-from selfprint.signs import FIGURES, SMALL_LETTERS, end_of_run, read_count
+from selfprint.signs import FIGURES, SMALL_LETTERS, read_count
 from selfprint.steps import is_rule
 
 MOST_SIGNS_OF_NAME = 8
@@ -62,7 +62,7 @@ def is_name(value):
     """Whether any value is a name."""
     if not isinstance(value, str) or not 1 <= len(value) <= MOST_SIGNS_OF_NAME:
         return False
-    return value[0] in SMALL_LETTERS and end_of_run(value, 0, SMALL_LETTERS + FIGURES) == len(value)
+    return value[0] in SMALL_LETTERS and all([sign in SMALL_LETTERS + FIGURES for sign in value])
 
 
 def is_told(part, text):
@@ -98,13 +98,12 @@ def command_told(value):
     """A tuple of a command's word and the list of the tuples of its parts and their texts; None of any other value."""
     if not isinstance(value, str):
         return None
-    word, *texts = value.split(" ")
+    word = value.partition(" ")[0]
     if word not in DEEDS and word not in OTHER_COMMANDS:
         return None
     parts = DEEDS[word] if word in DEEDS else OTHER_COMMANDS[word]
-    if "text" in parts:
-        # A text is all that is left, whatever stands in it.
-        texts = value.split(" ", len(parts))[1:]
+    # A text is all that is left, whatever stands in it.
+    texts = value.split(" ", len(parts))[1:] if "text" in parts else value.split(" ")[1:]
     told = claim_told(texts) if word == "claim" else parts_told(parts, texts)
     return None if told is None else (word, told)
 

@@ -34,7 +34,7 @@ class Trail:
         """How many arguments down the way's end is."""
         return len(self.steps) - 1
 
-    def many(self):
+    def row_size(self):
         """How many counts are asked for, one at least."""
         return self.depth() + 1 if self.is_of_heads else max(self.depth(), 1)
 
