@@ -142,8 +142,9 @@ class Desk:
             raise InvalidPaper(paper)
         kept = self._kept
         words = claim_words(kept.shelf.claims[label])
+        # No limit stops what they are told of, as the state is not gone; where one stops the paper, it is none.
         for meant in (claim, contrary(claim)):
-            if is_paper_now(meant, paper):
+            if is_paper_of(meant, paper):
                 papers = {**kept.papers, label: (words, meant[0], renewed(paper))}
                 self._kept = Kept(kept.shelf, kept.done, kept.undone, papers)
                 return
@@ -158,7 +159,7 @@ class Desk:
         words, word, paper = kept.papers[label]
         if words != claim_words(kept.shelf.claims[label]):
             return False
-        return is_paper_now(claim if word == claim[0] else contrary(claim), paper)
+        return is_paper_of(claim if word == claim[0] else contrary(claim), paper)
 
     def lines(self):
         """The list of the lines of the deeds that are not taken back."""
@@ -232,17 +233,10 @@ def is_kept(shelf, part, name, first):
 
 
 def value_told(shelf, part, text):
-    """The value of a command's part: a thing, new, with its sort where none is told; a COUNT; else the text."""
+    """The value of a command's part: a thing, with its sort where none is wanted; a COUNT; else the text."""
     if part in SORTED:
+        # An error may hold it, and is not to hold what the desk has.
         return renewed(shelf.things[text][1])
     if part in ("thing", "like"):
-        return renewed(shelf.things[text])
+        return shelf.things[text]
     return int(text) if part == "count" else text
-
-
-def is_paper_now(claim, paper):
-    """Whether any value is a paper of a claim, and no limit stops this."""
-    try:
-        return is_paper_of(claim, paper)
-    except TooMany:
-        return False

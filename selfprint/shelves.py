@@ -36,7 +36,7 @@ def claim_made(things, claim):
 def state_of(things, claim):
     """The state of a label with this claim."""
     made = claim_made(things, claim)
-    if made is None or not is_claim(made):
+    if not is_claim(made):
         return "gone"
     try:
         return "true" if is_true(made) else "false"

@@ -7,9 +7,9 @@ from selfprint.codes import shaken
 from selfprint.compiler import compiled
 from selfprint.desk import Desk
 from selfprint.errors import (
-    BadKind, BadText, InvalidArguments, InvalidClaim, InvalidCommand, InvalidLetter, InvalidPosition, InvalidProgram,
-    LabelTaken, NameTaken, NoStep, NotData, NothingNamed, NothingToRedo, NothingToUndo, NotShown, TooMany, UnknownLabel,
-    UnknownName, UnlikeKinds)
+    BadKind, BadText, CommandFailed, InvalidArguments, InvalidClaim, InvalidCommand, InvalidLetter, InvalidPosition, InvalidProgram,
+    LabelTaken, NameTaken, NoStep, NotData, NothingNamed, NothingToRedo, NothingToUndo, NotShown, TermError, TooMany,
+    UnknownLabel, UnknownName, UnlikeKinds)
 from selfprint.reader import read_kind, read_program
 
 SAME = [("fun", A), ("name", 0)]
@@ -306,6 +306,22 @@ class Errors(DeskChecks):
                 ("leaves u n t", ("leaves", u, [t], n)), ("leavesnot u t n", ("leavesnot", u, [n], t))):
             self.fails(InvalidClaim, {"value": claim}, desk, f"claim k {words}")
         self.does("k false", desk, "claim k plain t")
+
+    def test_what_errors_hold_is_new(self):
+        desk = filled("program f fun x : a. x", "program n 4", "program p fun p : a * a * a. (p, p)", "kind d a * a * a * a * a * a")
+        before = seen(desk)
+        for command in ("call g f n", "left g f n n", "claim k alike f n", "claim k leaves f n n", "letter p 0 d"):
+            for call in (desk.do, desk.attempt):
+                try:
+                    call(command)
+                except TermError as why:
+                    value = why.value
+                except CommandFailed as why:
+                    value = why.__cause__.value
+                self.assertTrue(inner_lists(value))
+                for row in inner_lists(value):
+                    row.append("changed")
+                self.assertEqual(seen(desk), before)
 
     def test_the_first_error_is_told(self):
         full = [f"program n{place} 5" for place in range(12)] + [f"claim k{place} plain n0" for place in range(12)]
